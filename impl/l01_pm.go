@@ -22,18 +22,22 @@ func isWord(n int) bool {
 	return 0 <= n && n < MaxWord
 }
 
+func areWords(list []int) bool {
+	for _, n := range list {
+		if !isWord(n) {
+			return false
+		}
+	}
+	return true
+}
+
 func isPlace(at int) bool {
 	return 0 <= at && at < PmSize
 }
 
 func PmOK(p Pm) bool {
-	if len(p.Words) != PmSize || len(p.Pending) > maxPending {
+	if len(p.Words) != PmSize || len(p.Pending) > maxPending || !areWords(p.Words) {
 		return false
-	}
-	for _, w := range p.Words {
-		if !isWord(w) {
-			return false
-		}
 	}
 	for _, s := range p.Pending {
 		if !isPlace(s.At) || !isWord(s.Value) {

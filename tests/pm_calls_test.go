@@ -2,7 +2,6 @@ package tests
 
 import (
 	"math"
-	"slices"
 	"testing"
 
 	"loop.example/g00410/impl"
@@ -13,13 +12,11 @@ func TestP1RightMemories(t *testing.T) {
 		if !impl.PmOK(m.pm) {
 			t.Errorf("%s: PmOK is false", m.name)
 		}
-		for _, c := range memoryCalls(0, 0, []int{1}) {
-			want := impl.OK
+		for _, c := range memoryCalls(m.pm, 0, 0, []int{1}) {
 			if c.name == "PmStore" && len(m.pm.Pending) == mostStores {
-				want = impl.ErrFull
-			}
-			if got := c.do(m.pm); got.code != want {
-				t.Errorf("%s: %s has the code %d", m.name, c.name, got.code)
+				wantAsItWas(t, m.name, c, impl.ErrFull)
+			} else {
+				wantCode(t, m.name, c, impl.OK)
 			}
 		}
 	}
@@ -36,10 +33,8 @@ func TestP1WrongMemories(t *testing.T) {
 			t.Errorf("%s: PmOK is true", m.name)
 		}
 		for _, o := range others {
-			for _, c := range memoryCalls(o.at, o.v, o.keeps) {
-				if got := c.do(m.pm); got.code != impl.ErrBad || !isZeroOutcome(got) {
-					t.Errorf("%s: %s has the code %d, or more than a code", m.name, c.name, got.code)
-				}
+			for _, c := range memoryCalls(m.pm, o.at, o.v, o.keeps) {
+				wantCode(t, m.name, c, impl.ErrBad)
 			}
 		}
 	}
@@ -50,10 +45,8 @@ func TestP1NoPlaces(t *testing.T) {
 	for _, m := range rightMemories() {
 		for _, at := range []int{-1, -impl.LineSize, impl.PmSize, impl.PmSize + 1, math.MinInt, math.MaxInt} {
 			for _, v := range []int{0, -1, impl.MaxWord} {
-				for _, c := range memoryCalls(at, v, nil)[:3] {
-					if got := c.do(m.pm); got.code != impl.ErrPlace || !isZeroOutcome(got) {
-						t.Errorf("%s: %s at %d has the code %d, or more than a code", m.name, c.name, at, got.code)
-					}
+				for _, c := range memoryCallsAt(m.pm, at, v) {
+					wantCode(t, m.name, c, impl.ErrPlace)
 				}
 			}
 		}
@@ -63,9 +56,7 @@ func TestP1NoPlaces(t *testing.T) {
 func TestP1StoresOfNoWord(t *testing.T) {
 	for _, m := range rightMemories() {
 		for _, v := range []int{-1, impl.MaxWord, impl.MaxWord + 1, math.MinInt, math.MaxInt} {
-			if x, code := impl.PmStore(m.pm, 0, v); code != impl.ErrRange || !isZeroPm(x) {
-				t.Errorf("%s: PmStore of %d has the code %d, or more than a code", m.name, v, code)
-			}
+			wantCode(t, m.name, ask("PmStore", impl.PmStore, m.pm, 0, v), impl.ErrRange)
 		}
 	}
 }
@@ -79,113 +70,41 @@ func TestP1StoreUntilFull(t *testing.T) {
 		}
 		p = x
 	}
-	if x, code := impl.PmStore(p, 0, 1); code != impl.ErrFull || !samePm(x, p) {
-		t.Errorf("store %d has the code %d, or the memory is not as it was", mostStores, code)
-	}
+	wantAsItWas(t, "full by stores", ask("PmStore", impl.PmStore, p, 0, 1), impl.ErrFull)
 }
 
-func TestP1KeepsOutOfRange(t *testing.T) {
-	longest := make([]int, impl.MaxList)
-	longest[impl.MaxList-1] = 401
-	wrong := [][]int{{-1}, {401}, {0, -1}, {400, 401}, {1, 2, 3, 4, 5, 6, 7, 8, -1}, {math.MinInt}, {math.MaxInt}, longest}
+func TestP1KeepsOfMemories(t *testing.T) {
 	for _, m := range rightMemories() {
-		for _, keeps := range wrong {
-			if x, code := impl.PmCrash(m.pm, keeps); code != impl.ErrRange || !isZeroPm(x) {
-				t.Errorf("%s: PmCrash with %d keeps has the code %d, or more than a code", m.name, len(keeps), code)
-			}
+		for _, keeps := range wrongKeeps() {
+			wantCode(t, m.name, ask("PmCrash", impl.PmCrash, m.pm, keeps), impl.ErrRange)
 		}
+		wantCode(t, m.name, ask("PmCrash", impl.PmCrash, m.pm, make([]int, impl.MaxList)), impl.OK)
 	}
-}
-
-func TestP1KeepsTooLong(t *testing.T) {
-	long := make([]int, impl.MaxList+1)
-	longAndWrong := slices.Clone(long)
-	longAndWrong[0] = -1
 	for _, m := range append(rightMemories(), wrongMemories()...) {
-		for _, keeps := range [][]int{long, longAndWrong, make([]int, 3*impl.MaxList)} {
-			if x, code := impl.PmCrash(m.pm, keeps); code != impl.ErrLong || !isZeroPm(x) {
-				t.Errorf("%s: PmCrash with %d keeps has the code %d, or more than a code", m.name, len(keeps), code)
-			}
-		}
-	}
-	for _, m := range rightMemories() {
-		if _, code := impl.PmCrash(m.pm, make([]int, impl.MaxList)); code != impl.OK {
-			t.Errorf("%s: PmCrash with the most keeps has the code %d", m.name, code)
+		for _, keeps := range longKeeps() {
+			wantCode(t, m.name, ask("PmCrash", impl.PmCrash, m.pm, keeps), impl.ErrLong)
 		}
 	}
 }
 
-func manyArguments() []memoryCall {
-	var list []memoryCall
-	list = append(list, memoryCalls(0, 0, nil)...)
-	list = append(list, memoryCalls(3, 77, []int{1})...)
-	list = append(list, memoryCalls(impl.PmSize-1, impl.MaxWord-1, []int{400, 0, 2})...)
-	list = append(list, memoryCalls(-1, -1, []int{-1})...)
-	list = append(list, memoryCalls(impl.PmSize, impl.MaxWord, make([]int, impl.MaxList+1))...)
-	return list
-}
-
-func TestP1ArgumentsStayAsTheyAre(t *testing.T) {
+func TestP1MemoriesUntouched(t *testing.T) {
 	for _, m := range append(rightMemories(), wrongMemories()...) {
-		for _, c := range manyArguments() {
-			p := withRoomPm(m.pm)
-			want := copyMemory(wholePm(p))
-			impl.PmOK(p)
-			got := c.do(p)
-			if !samePm(wholePm(p), want) {
-				t.Errorf("%s: %s changes its argument", m.name, c.name)
-			}
-			scribblePm(got.pm)
-			scribbleInts(got.list)
-			if !samePm(wholePm(p), want) {
-				t.Errorf("%s: writing into the answer of %s changes its argument", m.name, c.name)
-			}
-		}
-	}
-}
-
-func TestP1KeepsStayAsTheyAre(t *testing.T) {
-	lists := [][]int{{}, {1}, {2, 0}, {400, 401}, {-1}, make([]int, impl.PmSize), make([]int, impl.MaxList+1)}
-	for _, m := range append(rightMemories(), wrongMemories()...) {
-		for _, list := range lists {
-			keeps := withRoom(list, sentinel)
-			want := slices.Clone(keeps[:cap(keeps)])
-			x, _ := impl.PmCrash(m.pm, keeps)
-			scribblePm(x)
-			if !slices.Equal(keeps[:cap(keeps)], want) {
-				t.Errorf("%s: PmCrash changes its %d keeps", m.name, len(list))
-			}
-		}
-	}
-}
-
-// Every call is asked twice, all the others being called in between, and then of a copy.
-func TestP1AlikeAnswers(t *testing.T) {
-	memories := append(rightMemories(), wrongMemories()...)
-	calls := manyArguments()
-	var first []outcome
-	for _, m := range memories {
-		for _, c := range calls {
-			first = append(first, c.do(m.pm))
-		}
-	}
-	for i, m := range memories {
-		for j, c := range calls {
-			want := first[i*len(calls)+j]
-			if !sameOutcome(c.do(m.pm), want) || !sameOutcome(c.do(withRoomPm(m.pm)), want) {
-				t.Errorf("%s: %s answers otherwise the second time", m.name, c.name)
-			}
-		}
+		calls := []asked{ask("PmOK", impl.PmOK, m.pm)}
+		calls = append(calls, memoryCalls(m.pm, 0, 0, nil)...)
+		calls = append(calls, memoryCalls(m.pm, 3, 77, []int{1})...)
+		calls = append(calls, memoryCalls(m.pm, impl.PmSize-1, impl.MaxWord-1, []int{400, 0, 2})...)
+		calls = append(calls, memoryCalls(m.pm, -1, -1, []int{-1})...)
+		calls = append(calls, memoryCalls(m.pm, impl.PmSize, impl.MaxWord, make([]int, impl.MaxList+1))...)
+		wantPromise1(t, m.name, calls)
 	}
 }
 
 func TestP1NilIsEmpty(t *testing.T) {
 	withNil := impl.Pm{Words: make([]int, impl.PmSize), Pending: nil}
 	withEmpty := impl.Pm{Words: make([]int, impl.PmSize), Pending: []impl.Store{}}
-	ofNil, ofEmpty := memoryCalls(3, 5, nil), memoryCalls(3, 5, []int{})
-	for i, c := range ofNil {
-		want := c.do(withNil)
-		if !sameOutcome(c.do(withEmpty), want) || !sameOutcome(ofEmpty[i].do(withNil), want) {
+	want := memoryCalls(withNil, 3, 5, nil)
+	for i, c := range memoryCalls(withEmpty, 3, 5, []int{}) {
+		if !allAlike(c.plainAnswers(), want[i].plainAnswers(), false) {
 			t.Errorf("%s takes nil and empty lists as two things", c.name)
 		}
 	}

@@ -7,10 +7,7 @@ import (
 	"loop.example/g00410/impl"
 )
 
-const (
-	mostStores = 400
-	sentinel   = 424242
-)
+const mostStores = 400
 
 // zeroMemory has no word and no store but noughts.
 func zeroMemory() impl.Pm {
@@ -36,85 +33,26 @@ func storesOf(n int, places ...int) []impl.Store {
 	return list
 }
 
-func copyMemory(p impl.Pm) impl.Pm {
-	return impl.Pm{Words: slices.Clone(p.Words), Pending: slices.Clone(p.Pending)}
-}
-
 // samePm takes nil and empty lists as alike, as the document does.
 func samePm(a, b impl.Pm) bool {
 	return slices.Equal(a.Words, b.Words) && slices.Equal(a.Pending, b.Pending)
 }
 
-func isZeroPm(p impl.Pm) bool {
-	return len(p.Words) == 0 && len(p.Pending) == 0
+// memoryCalls are all calls of chapter 2 that answer a code.
+func memoryCalls(p impl.Pm, at, v int, keeps []int) []asked {
+	return append(memoryCallsAt(p, at, v),
+		ask("PmFence", impl.PmFence, p),
+		ask("PmUnsure", impl.PmUnsure, p),
+		ask("PmSeen", impl.PmSeen, p),
+		ask("PmCrash", impl.PmCrash, p, keeps),
+	)
 }
 
-// withRoom is the list with elements behind its end, so that a call that appends in place is seen.
-func withRoom[E any](list []E, behind E) []E {
-	room := append(slices.Clone(list), behind, behind, behind)
-	return room[:len(list)]
-}
-
-func withRoomPm(p impl.Pm) impl.Pm {
-	return impl.Pm{
-		Words:   withRoom(p.Words, sentinel),
-		Pending: withRoom(p.Pending, impl.Store{At: sentinel, Value: sentinel, Flushed: true}),
-	}
-}
-
-func wholePm(p impl.Pm) impl.Pm {
-	return impl.Pm{Words: p.Words[:cap(p.Words)], Pending: p.Pending[:cap(p.Pending)]}
-}
-
-func scribbleInts(list []int) {
-	whole := list[:cap(list)]
-	for i := range whole {
-		whole[i] = -7
-	}
-}
-
-func scribblePm(p impl.Pm) {
-	scribbleInts(p.Words)
-	whole := p.Pending[:cap(p.Pending)]
-	for i := range whole {
-		whole[i] = impl.Store{At: -7, Value: -7, Flushed: true}
-	}
-}
-
-// outcome holds whatever a call of the memory answers, so that all of them are asked alike.
-type outcome struct {
-	pm     impl.Pm
-	list   []int
-	number int
-	code   int
-}
-
-func sameOutcome(a, b outcome) bool {
-	return samePm(a.pm, b.pm) && slices.Equal(a.list, b.list) && a.number == b.number && a.code == b.code
-}
-
-func isZeroOutcome(o outcome) bool {
-	return isZeroPm(o.pm) && len(o.list) == 0 && o.number == 0
-}
-
-type memoryCall struct {
-	name string
-	do   func(p impl.Pm) outcome
-}
-
-// memoryCalls are all calls of chapter 2 that answer a code, with these other arguments.
-func memoryCalls(at, v int, keeps []int) []memoryCall {
-	ofPm := func(x impl.Pm, code int) outcome { return outcome{pm: x, code: code} }
-	ofList := func(x []int, code int) outcome { return outcome{list: x, code: code} }
-	ofNumber := func(x, code int) outcome { return outcome{number: x, code: code} }
-	return []memoryCall{
-		{"PmLoad", func(p impl.Pm) outcome { return ofNumber(impl.PmLoad(p, at)) }},
-		{"PmStore", func(p impl.Pm) outcome { return ofPm(impl.PmStore(p, at, v)) }},
-		{"PmFlush", func(p impl.Pm) outcome { return ofPm(impl.PmFlush(p, at)) }},
-		{"PmFence", func(p impl.Pm) outcome { return ofPm(impl.PmFence(p)) }},
-		{"PmUnsure", func(p impl.Pm) outcome { return ofList(impl.PmUnsure(p)) }},
-		{"PmSeen", func(p impl.Pm) outcome { return ofList(impl.PmSeen(p)) }},
-		{"PmCrash", func(p impl.Pm) outcome { return ofPm(impl.PmCrash(p, keeps)) }},
+func memoryCallsAt(p impl.Pm, at, v int) []asked {
+	return []asked{
+		ask("PmLoad", impl.PmLoad, p, at),
+		ask("PmStore", impl.PmStore, p, at, v),
+		ask("PmFlush", impl.PmFlush, p, at),
 	}
 }
 
@@ -162,12 +100,4 @@ func wrongMemories() []namedMemory {
 		list = append(list, namedMemory{"store at no place", numberedMemory(impl.Store{At: 1}, impl.Store{At: at, Flushed: true})})
 	}
 	return list
-}
-
-// dice rolls the same numbers in every run: a test that failed fails again.
-type dice struct{ state uint64 }
-
-func (d *dice) roll(n int) int {
-	d.state = d.state*6364136223846793005 + 1442695040888963407
-	return int(d.state>>33) % n
 }
