@@ -22,9 +22,10 @@ func isWord(n int) bool {
 	return 0 <= n && n < MaxWord
 }
 
-func areWords(list []int) bool {
-	for _, n := range list {
-		if !isWord(n) {
+// every is true of a list without elements.
+func every[T any](list []T, holds func(T) bool) bool {
+	for _, x := range list {
+		if !holds(x) {
 			return false
 		}
 	}
@@ -35,16 +36,12 @@ func isPlace(at int) bool {
 	return 0 <= at && at < PmSize
 }
 
+func isStore(s Store) bool {
+	return isPlace(s.At) && isWord(s.Value)
+}
+
 func PmOK(p Pm) bool {
-	if len(p.Words) != PmSize || len(p.Pending) > maxPending || !areWords(p.Words) {
-		return false
-	}
-	for _, s := range p.Pending {
-		if !isPlace(s.At) || !isWord(s.Value) {
-			return false
-		}
-	}
-	return true
+	return len(p.Words) == PmSize && len(p.Pending) <= maxPending && every(p.Words, isWord) && every(p.Pending, isStore)
 }
 
 func placeFault(p Pm, at int) int {
@@ -120,14 +117,8 @@ func PmFence(p Pm) (Pm, int) {
 	return after, OK
 }
 
-// keepsOK looks at every element, also at those that no word would ask for.
-func keepsOK(keeps []int) bool {
-	for _, k := range keeps {
-		if k < 0 || k > maxPending {
-			return false
-		}
-	}
-	return true
+func isKeep(k int) bool {
+	return 0 <= k && k <= maxPending
 }
 
 func keepAt(keeps []int, i int) int {
@@ -145,7 +136,8 @@ func PmCrash(p Pm, keeps []int) (Pm, int) {
 	if code != OK {
 		return Pm{}, code
 	}
-	if !keepsOK(keeps) {
+	// Also those that no word would ask for.
+	if !every(keeps, isKeep) {
 		return Pm{}, ErrRange
 	}
 	var left [PmSize]int
