@@ -43,6 +43,16 @@ func noIndexes(last int) []int {
 	return []int{-1, -2, -last - 1, last + 1, last + 2, last + 1<<32, -1 << 32, 1 << 62, math.MinInt, math.MinInt + 1, math.MaxInt - 1, math.MaxInt}
 }
 
+// noShortNames are texts as they may be handed in.
+func noShortNames() []string {
+	return []string{
+		"", "aaaaaaa", "sevenaa", "zzzzzzz", "A", "Z", "aA", "Aa", "abcdeF", "0", "a1", "1a", "a1b", " ", "a ", " a", "a b",
+		"_", "a_", "/", "/a", "a/b", "a-b", ".", "..", "a\n", "a\x00", "\x00", "`", "{", "a`", "a{",
+		"é", "aé", "ａ", "abcdé", "\xff", "a\xff", "ß", "日", "e\u0301",
+		strings.Repeat("a", impl.MaxName), strings.Repeat("a", impl.MaxText), strings.Repeat(" ", impl.MaxText),
+	}
+}
+
 func wantName(t *testing.T, name string, n int) {
 	t.Helper()
 	if got, code := impl.PackName(name); got != n || code != impl.OK {

@@ -86,13 +86,7 @@ func TestP4NumbersWithoutAName(t *testing.T) {
 }
 
 func TestP4TextsThatAreNoShortNames(t *testing.T) {
-	texts := []string{
-		"", "aaaaaaa", "sevenaa", "zzzzzzz", "A", "Z", "aA", "Aa", "abcdeF", "0", "a1", "1a", "a1b", " ", "a ", " a", "a b",
-		"_", "a_", "/", "/a", "a/b", "a-b", ".", "..", "a\n", "a\x00", "\x00", "`", "{", "a`", "a{",
-		"é", "aé", "ａ", "abcdé", "\xff", "a\xff", "ß", "日", "e\u0301",
-		strings.Repeat("a", impl.MaxName), strings.Repeat("a", impl.MaxText), strings.Repeat(" ", impl.MaxText),
-	}
-	for _, text := range texts {
+	for _, text := range noShortNames() {
 		wantCode(t, fmt.Sprintf("%.20q", text), ask("PackName", impl.PackName, text), impl.ErrName)
 	}
 }
