@@ -356,12 +356,18 @@ func TestP6EntriesOfDirectories(t *testing.T) {
 	}
 }
 
+// updatesFrom are of words one behind the other.
+func updatesFrom(at int, values ...int) []impl.Update {
+	var list []impl.Update
+	for i, v := range values {
+		list = append(list, impl.Update{At: at + i, Value: v})
+	}
+	return list
+}
+
 func wantUpdates(t *testing.T, where string, got []impl.Update, code, at int, values ...int) {
 	t.Helper()
-	var want []impl.Update
-	for i, v := range values {
-		want = append(want, impl.Update{At: at + i, Value: v})
-	}
+	want := updatesFrom(at, values...)
 	if code != impl.OK || !slices.Equal(got, want) {
 		t.Errorf("%s: the updates are %v, code %d, not %v", where, got, code, want)
 	}
