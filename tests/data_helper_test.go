@@ -255,6 +255,8 @@ func behindByHand(m impl.Image, d impl.Devices, o impl.Op) (map[string]int, map[
 		if o.Kind == impl.OpMake {
 			contents[paths[o.Path]] = nil
 		}
+		there := slices.Collect(maps.Values(paths))
+		maps.DeleteFunc(contents, func(i int, _ []int) bool { return !slices.Contains(there, i) })
 		return paths, contents
 	}
 	i := paths[o.Path]
