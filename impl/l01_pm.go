@@ -132,6 +132,11 @@ func PmCrash(p Pm, keeps []int) (Pm, int) {
 	if len(keeps) > MaxList {
 		return Pm{}, ErrLong
 	}
+	return crashPm(p, keeps)
+}
+
+// crashPm takes keeps however many they are: where they stand within another argument, they are bounded by what is said of that alone.
+func crashPm(p Pm, keeps []int) (Pm, int) {
 	places, code := PmUnsure(p)
 	if code != OK {
 		return Pm{}, code

@@ -19,7 +19,7 @@ func refusedActs() []impl.Act {
 	for _, n := range append(noIndexes(mostTodo), mostTodo+1) {
 		list = append(list, stepsAct(n))
 	}
-	for _, keeps := range slices.Concat(wrongKeeps(), longKeeps()) {
+	for _, keeps := range slices.Concat(wrongKeeps(), manyWrongKeeps()) {
 		list = append(list, crashAct(keeps...))
 	}
 	for _, o := range noOps() {
@@ -42,7 +42,7 @@ func TestP1RightWorlds(t *testing.T) {
 
 // That a world is not right is told ahead of all that is wrong about an act, and nothing of it is answered.
 func TestP1WrongWorlds(t *testing.T) {
-	acts := append(actsOfEachKind(), impl.Act{}, impl.Act{Kind: 9}, stepsAct(-1), stepsAct(mostTodo+1), crashAct(-1), crashAct(longKeeps()[1]...), opAct(impl.Op{}), startAct(noOps()[2]))
+	acts := append(actsOfEachKind(), impl.Act{}, impl.Act{Kind: 9}, stepsAct(-1), stepsAct(mostTodo+1), crashAct(-1), crashAct(manyKeeps()[0]...), crashAct(manyWrongKeeps()[0]...), opAct(impl.Op{}), startAct(noOps()[2]))
 	for _, x := range wrongWorlds(t, 9) {
 		if impl.WorldOK(x.world) {
 			t.Errorf("%s: WorldOK is true", x.name)
@@ -106,17 +106,12 @@ func TestP1RefusedActs(t *testing.T) {
 			switch a.Kind {
 			case impl.AcOp, impl.AcStart:
 				want = impl.ErrBad
-			case impl.AcSteps:
+			case impl.AcSteps, impl.AcCrash:
 				want = impl.ErrRange
-			case impl.AcCrash:
-				want = impl.ErrRange
-				if len(a.Keeps) > impl.MaxList {
-					want = impl.ErrLong
-				}
 			}
 			wantAsItWas(t, where, worldDoCall(x.world, a), want)
 		}
-		for _, keeps := range rightKeeps() {
+		for _, keeps := range slices.Concat(rightKeeps(), manyKeeps()) {
 			wantCode(t, x.name, worldDoCall(x.world, crashAct(keeps...)), impl.OK)
 		}
 	}
@@ -242,7 +237,7 @@ func TestP1WorldsUntouched(t *testing.T) {
 func TestP1ActsUntouched(t *testing.T) {
 	var calls []asked
 	for _, x := range worldHosts(t) {
-		for _, a := range append(actsOfEachKind(), opAct(listOp("/d")), opAct(removeOp("/f")), impl.Act{}, stepsAct(-1), crashAct(1, -1), opAct(impl.Op{})) {
+		for _, a := range append(actsOfEachKind(), opAct(listOp("/d")), opAct(removeOp("/f")), impl.Act{}, stepsAct(-1), crashAct(1, -1), crashAct(manyKeeps()[2]...), opAct(impl.Op{})) {
 			calls = append(calls, worldDoCall(x.world, a))
 			// What a call answered is an argument like any other.
 			if after, code := impl.WorldDo(x.world, a); code == impl.OK {

@@ -32,6 +32,28 @@ func demoteAct() impl.Act { return impl.Act{Kind: impl.AcDemote} }
 
 func promoteAct() impl.Act { return impl.Act{Kind: impl.AcPromote} }
 
+// manyKeeps are more than a list of an argument's own may have, all of them right: within an act they are bounded by nothing but that.
+func manyKeeps() [][]int {
+	var list [][]int
+	for _, n := range []int{impl.MaxList + 1, impl.MaxList + 2, 3 * impl.MaxList, 100000} {
+		list = append(list, make([]int, n), slices.Repeat([]int{400}, n), slices.Repeat([]int{0, 1, 2, 3, 400}, n/4))
+	}
+	return list
+}
+
+// manyWrongKeeps have one number among them that is none from 0 to 400.
+func manyWrongKeeps() [][]int {
+	var list [][]int
+	for k, keeps := range manyKeeps() {
+		for _, at := range []int{0, impl.MaxList - 1, impl.MaxList, len(keeps) - 1} {
+			wrong := slices.Clone(keeps)
+			wrong[at] = wrongKeeps()[k%2][0]
+			list = append(list, wrong)
+		}
+	}
+	return list
+}
+
 func moveAct(up bool) impl.Act {
 	if up {
 		return promoteAct()
@@ -211,9 +233,6 @@ func answeredByHand(t *testing.T, w impl.World) impl.World {
 
 func crashedWorldByHand(t *testing.T, where string, w impl.World, keeps []int) (impl.World, int) {
 	t.Helper()
-	if len(keeps) > 4096 {
-		return w, impl.ErrLong
-	}
 	for _, n := range keeps {
 		if n < 0 || n > 400 {
 			return w, impl.ErrRange

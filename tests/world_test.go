@@ -267,6 +267,40 @@ func TestP15CrashAtTheEnds(t *testing.T) {
 	}
 }
 
+// An act's keeps may be more than a list of an argument's own: as there are fewer places, the first ones alone are asked for.
+func TestP15CrashesWithManyKeeps(t *testing.T) {
+	d := &dice{state: 153}
+	for _, x := range begunWorlds(t) {
+		w := x.world
+		for n := 0; len(w.Fs.Todo) > 0; n++ {
+			where := fmt.Sprint(x.name, ", ", n, " steps")
+			var keeps []int
+			for len(keeps) <= impl.MaxList+d.roll(100) {
+				keeps = append(keeps, d.roll(3)*d.roll(201))
+			}
+			got := agreeing(t, where, w, crashAct(keeps...))
+			wantWorld(t, where+", the first ones", agreeing(t, where, w, crashAct(keeps[:impl.PmSize]...)), got)
+			w = agreeing(t, where, w, stepsAct(1+d.roll(5)))
+		}
+	}
+	begun := worldWith(t, smallWorld(t), startAct(writeOp("/f", 0, 5)), stepsAct(8))
+	for _, keeps := range manyKeeps() {
+		agreeing(t, fmt.Sprint(len(keeps), " keeps"), begun, crashAct(keeps...))
+		_, codes := wantActsRun(t, fmt.Sprint(len(keeps), " keeps"), []impl.Act{crashAct(keeps...)})
+		if !slices.Equal(codes, []int{impl.OK}) {
+			t.Errorf("a run of a crash of %d keeps has the codes %v", len(keeps), codes)
+		}
+	}
+	for _, keeps := range manyWrongKeeps() {
+		if _, code := acted(t, fmt.Sprint(len(keeps), " keeps"), begun, crashAct(keeps...)); code != impl.ErrRange {
+			t.Errorf("a crash of %d keeps, one of which is wrong, has the code %d", len(keeps), code)
+		}
+		if _, codes := wantActsRun(t, fmt.Sprint(len(keeps), " keeps"), []impl.Act{crashAct(keeps...)}); !slices.Equal(codes, []int{impl.ErrRange}) {
+			t.Errorf("a run of a crash of %d keeps, one of which is wrong, has the codes %v", len(keeps), codes)
+		}
+	}
+}
+
 func TestP15CrashUponCrash(t *testing.T) {
 	d := &dice{state: 151}
 	for _, x := range begunWorlds(t) {
@@ -668,9 +702,9 @@ func TestP15Runs(t *testing.T) {
 	}
 	// Acts that are refused are passed over.
 	w, codes := wantActsRun(t, "refused", []impl.Act{
-		opAct(makeOp("/a")), {}, startAct(writeOp("/a", 0, 5)), opAct(listOp("/")), stepsAct(201), demoteAct(), crashAct(401), opAct(impl.Op{}), {Kind: 9}, finishAct(), promoteAct(), crashAct(make([]int, impl.MaxList+1)...), opAct(readOp("/a", 0)),
+		opAct(makeOp("/a")), {}, startAct(writeOp("/a", 0, 5)), opAct(listOp("/")), stepsAct(201), demoteAct(), crashAct(401), opAct(impl.Op{}), {Kind: 9}, finishAct(), promoteAct(), crashAct(manyWrongKeeps()[0]...), crashAct(manyKeeps()[0]...), opAct(readOp("/a", 0)),
 	})
-	if want := []int{0, impl.ErrForm, 0, impl.ErrBusy, impl.ErrRange, impl.ErrBusy, impl.ErrRange, impl.ErrBad, impl.ErrForm, 0, impl.ErrNone, impl.ErrLong, 0}; !slices.Equal(codes, want) {
+	if want := []int{0, impl.ErrForm, 0, impl.ErrBusy, impl.ErrRange, impl.ErrBusy, impl.ErrRange, impl.ErrBad, impl.ErrForm, 0, impl.ErrNone, impl.ErrRange, 0, 0}; !slices.Equal(codes, want) {
 		t.Errorf("the codes are %v, not %v", codes, want)
 	}
 	wantAnswers(t, "refused", w, impl.Answer{}, impl.Answer{}, impl.Answer{Value: 5})
