@@ -92,7 +92,7 @@ func readOpByHand(text string) (impl.Op, bool) {
 }
 
 func answerTextByHand(o impl.Op, a impl.Answer) (string, bool) {
-	if _, ok := opTextByHand(o); !ok || a.Code < 0 || a.Code > 19 || !isWordByHand(a.Value) || len(a.Names) > 24 {
+	if !isOpByHand(o) || a.Code < 0 || a.Code > 19 || !isWordByHand(a.Value) || len(a.Names) > 24 {
 		return "", false
 	}
 	for _, name := range a.Names {

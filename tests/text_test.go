@@ -295,12 +295,62 @@ func TestP16Answers(t *testing.T) {
 		{listOp("/"), impl.Answer{Code: impl.ErrNoDir, Names: []string{"a"}}, "nodir"},
 		{makeOp("/a"), impl.Answer{Value: 5, Names: []string{"a"}}, "ok"},
 		{readOp("/a", 0), impl.Answer{Value: 5, Names: []string{"a"}}, "ok 5"},
+		{statOp("a"), impl.Answer{Code: impl.ErrName}, "name"},
+		{makeOp(""), impl.Answer{}, "ok"},
+		{statOp("/A"), impl.Answer{Value: 231}, "ok dir 3 1"},
+		{listOp("//"), impl.Answer{Names: []string{"a", "b"}}, "ok a b"},
+		{linkOp("/a", ""), impl.Answer{Code: impl.ErrName}, "name"},
+		{cutOp("/a", 1001), impl.Answer{Code: impl.ErrRange}, "range"},
+		{readOp("b", -1), impl.Answer{Value: 111}, "ok 111"},
+		{writeOp("/a", 0, impl.MaxWord), impl.Answer{Code: impl.ErrRange}, "range"},
 	} {
 		if got, code := impl.AnswerText(c.o, c.a); got != c.want || code != impl.OK {
 			t.Errorf("AnswerText of %+v, %+v is %q, code %d, not %q", c.o, c.a, got, code, c.want)
 		}
 		if !wantAnswerText(t, c.o, c.a) {
 			t.Errorf("%+v has no text when it is told a second time", c.a)
+		}
+	}
+}
+
+// opsWithoutAText are right, but for a path that is none, or a number that is out of its bounds.
+func opsWithoutAText() []impl.Op {
+	list := []impl.Op{linkOp("/a", ""), renameOp("/a", "/b/"), linkOp("", "")}
+	for _, path := range noPaths() {
+		list = append(list, opsOn(path, "/b", 3, 5)...)
+		list = append(list, linkOp("/a", path), renameOp("/a", path))
+	}
+	for _, n := range noIndexes(mostTold) {
+		list = append(list, cutOp("/a", n), readOp("/a", n), writeOp("/a", n, 5), writeOp("a", n, n))
+	}
+	for _, n := range noIndexes(impl.MaxWord - 1) {
+		list = append(list, writeOp("/a", 0, n))
+	}
+	return list
+}
+
+// What the answer to an operation is told as hangs on its kind alone.
+func TestP16AnswersToOperationsWithoutAText(t *testing.T) {
+	likes := map[int]impl.Op{}
+	for _, o := range opsOn("/a", "/b", 3, 5) {
+		likes[o.Kind] = o
+	}
+	answers := append(someAnswers(), impl.Answer{Code: 20}, impl.Answer{Value: impl.MaxWord}, impl.Answer{Names: shortNames(25)}, impl.Answer{Code: impl.ErrRange, Value: 5, Names: shortNames(24)})
+	for _, o := range opsWithoutAText() {
+		where := fmt.Sprintf("%.90q", fmt.Sprint(o))
+		if !impl.OpOK(o) {
+			t.Errorf("%s is no operation", where)
+		}
+		if text, code := impl.OpText(o); text != "" || code != impl.ErrBad {
+			t.Errorf("%s has a text: %q, code %d", where, text, code)
+		}
+		for _, a := range answers {
+			wantAnswerText(t, o, a)
+			text, code := impl.AnswerText(o, a)
+			like, likeCode := impl.AnswerText(likes[o.Kind], a)
+			if text != like || code != likeCode {
+				t.Errorf("AnswerText of %s, %+v is %q, code %d, not %q, code %d", where, a, text, code, like, likeCode)
+			}
 		}
 	}
 }
@@ -359,15 +409,45 @@ func TestP16AnswersOfLists(t *testing.T) {
 	}
 }
 
+// wantToldAnswers asks that the answers of a file system and of its model have texts.
+func wantToldAnswers(t *testing.T, f impl.Fs, o impl.Op) {
+	t.Helper()
+	_, a, code := impl.DoOp(f, o)
+	if code != impl.OK || !wantAnswerText(t, o, a) {
+		t.Errorf("the answer %+v, code %d, to %.90q has no text", a, code, fmt.Sprint(o))
+	}
+	model, _ := impl.ModelOf(f.Devices)
+	_, a, code = impl.ModelDo(model, o)
+	if code != impl.OK || !wantAnswerText(t, o, a) {
+		t.Errorf("the model's answer %+v, code %d, to %.90q has no text", a, code, fmt.Sprint(o))
+	}
+}
+
+// What is asked need not have a text itself.
+func TestP16AnswersToWhatHasNoText(t *testing.T) {
+	f := resting(smallImage())
+	for _, o := range opsWithoutAText() {
+		wantToldAnswers(t, f, o)
+	}
+	for want, list := range map[string][]impl.Op{
+		"name":  {statOp("a"), listOp("/A"), makeOp("//"), mkdirOp(""), removeOp("/f/"), linkOp("/f", "x"), renameOp("/f", ""), readOp("f", 0)},
+		"range": {cutOp("/f", 1001), readOp("/f", -1), writeOp("/f", -1, 5), writeOp("/f", 0, -1), writeOp("/f", 0, impl.MaxWord)},
+	} {
+		for _, o := range list {
+			_, a, _ := impl.DoOp(f, o)
+			if got, code := impl.AnswerText(o, a); got != want || code != impl.OK {
+				t.Errorf("the answer %+v to %+v is %q, code %d, not %q", a, o, got, code, want)
+			}
+		}
+	}
+}
+
 // What file systems and models answer is told, whatever is asked of them.
 func TestP16AnswersOfFileSystems(t *testing.T) {
 	for _, m := range []impl.Image{bareImage(), smallImage(), fullImage()} {
 		f := resting(m)
 		for _, o := range append(opsOfEachKind(), listOp("/d"), statOp("/"), statOp("/zzzzzz"), readOp("/zzzzzz", 7)) {
-			_, a, code := impl.DoOp(f, o)
-			if code != impl.OK || !wantAnswerText(t, o, a) {
-				t.Errorf("the answer %+v to %+v has no text", a, o)
-			}
+			wantToldAnswers(t, f, o)
 		}
 	}
 	small := resting(smallImage())
